@@ -1,27 +1,23 @@
 package expr
 
 import (
-	"math"
-
 	"mandrel/api"
-	"mandrel/leb"
 	"mandrel/ops"
+	"mandrel/parts"
 )
 
-// reader takes parts off bytes, one after another. At the first one that is wrong it stays, and takes none any more: each part is 0 from then on.
+// reader takes instructions part by part.
 type reader struct {
-	bytes []byte
-	at    int // where the next part begins, or the wrong one
+	parts.Reader
 	count int // the instructions so far
-	err   error
 }
 
 // list takes instructions within so many blocks, and the byte behind them, which it answers: the one that ends them, or, if it may be, that of an else.
 func (r *reader) list(nest int, mayElse bool) ([]api.Instr, byte) {
 	var l []api.Instr
 	for {
-		op := r.oneByte(func(c byte) error { return r.judgeOp(c, nest, mayElse) })
-		if r.err != nil || op == endByte || op == elseByte {
+		op := r.Byte(func(c byte) error { return r.judgeOp(c, nest, mayElse) })
+		if r.Err != nil || op == endByte || op == elseByte {
 			return l, op
 		}
 		r.count++
@@ -37,21 +33,21 @@ func (r *reader) instr(op byte, nest int) api.Instr {
 	form, _ := ops.Form(op)
 	switch form {
 	case ops.Const32:
-		in.N = r.signed(32)
+		in.N = r.Signed(32)
 	case ops.Const64:
-		in.N = r.signed(64)
+		in.N = r.Signed(64)
 	case ops.Index:
-		in.N = int64(r.unsigned())
+		in.N = int64(r.Index())
 	case ops.Address:
-		in.Align = r.unsigned()
-		in.Offset = r.unsigned()
+		in.Align = r.Index()
+		in.Offset = r.Index()
 	case ops.Memory:
-		r.oneByte(judgeZero)
+		r.Byte(judgeZero)
 	case ops.Table:
 		in.Labels = r.labels()
 	case ops.Call:
-		in.N = int64(r.unsigned())
-		r.oneByte(judgeZero)
+		in.N = int64(r.Index())
+		r.Byte(judgeZero)
 	case ops.If:
 		mayElse = true
 		fallthrough
@@ -72,65 +68,20 @@ func (r *reader) bodies(nest int, mayElse bool) (body, other []api.Instr) {
 }
 
 func (r *reader) labels() []uint32 {
-	beside := r.unsignedUpTo(MaxLabels)
+	beside := r.Number(judgeLabels)
 	labels := make([]uint32, beside+1)
 	for i := range labels {
-		labels[i] = r.unsigned()
+		labels[i] = r.Index()
 	}
 	return labels
 }
 
 func (r *reader) kind() api.Kind {
-	c := r.oneByte(judgeKind)
+	c := r.Byte(judgeKind)
 	if c == noneByte {
 		return api.None
 	}
 	return api.Kind(c)
-}
-
-// oneByte takes a part of one byte, if it is there and judge has nothing against it.
-func (r *reader) oneByte(judge func(c byte) error) byte {
-	if r.err == nil && r.at == len(r.bytes) {
-		r.err = api.ErrEnd
-	}
-	if r.err != nil {
-		return 0
-	}
-	c := r.bytes[r.at]
-	if r.err = judge(c); r.err != nil {
-		return 0
-	}
-	r.at++
-	return c
-}
-
-func (r *reader) unsigned() uint32 { return r.unsignedUpTo(math.MaxUint32) }
-
-// unsignedUpTo takes a number that must not be above most.
-func (r *reader) unsignedUpTo(most uint64) uint32 {
-	if r.err != nil {
-		return 0
-	}
-	v, n, err := leb.TakeU(r.bytes[r.at:], 32)
-	if err == nil && v > most {
-		err = api.ErrLimit
-	}
-	if r.err = err; err != nil {
-		return 0
-	}
-	r.at += n
-	return uint32(v)
-}
-
-func (r *reader) signed(bits int) int64 {
-	if r.err != nil {
-		return 0
-	}
-	v, n, err := leb.TakeS(r.bytes[r.at:], bits)
-	// Beside an error both are 0.
-	r.at += n
-	r.err = err
-	return v
 }
 
 // judgeOp is what is wrong with an instruction's number, or with a byte in the place of one.
@@ -146,6 +97,14 @@ func (r *reader) judgeOp(c byte, nest int, mayElse bool) error {
 		return api.ErrMalformed
 	}
 	if r.count == api.MaxBody || isBlock(form) && nest == api.MaxNest {
+		return api.ErrLimit
+	}
+	return nil
+}
+
+// judgeLabels is of how many labels there are beside the last one.
+func judgeLabels(v uint64, _ []byte) error {
+	if v > MaxLabels {
 		return api.ErrLimit
 	}
 	return nil
