@@ -6,29 +6,8 @@ import (
 	"slices"
 
 	"mandrel/api"
+	"mandrel/opcode"
 	"mandrel/ops"
-)
-
-// The instructions whose sign hangs on the module, or on the stack.
-const (
-	opUnreachable  = 0x00
-	opNop          = 0x01
-	opBlock        = 0x02
-	opLoop         = 0x03
-	opIf           = 0x04
-	opBr           = 0x0c
-	opBrIf         = 0x0d
-	opBrTable      = 0x0e
-	opReturn       = 0x0f
-	opCall         = 0x10
-	opCallIndirect = 0x11
-	opDrop         = 0x1a
-	opSelect       = 0x1b
-	opLocalGet     = 0x20
-	opLocalSet     = 0x21
-	opLocalTee     = 0x22
-	opGlobalGet    = 0x23
-	opGlobalSet    = 0x24
 )
 
 // anyKind is that of a value behind br and such that was not laid there: it passes for each kind.
@@ -80,16 +59,16 @@ func (w *walk) list(l []api.Instr, label, result api.Kind) bool {
 
 func (w *walk) instr(in api.Instr) bool {
 	switch in.Op {
-	case opDrop:
+	case opcode.Drop:
 		_, ok := w.takeAny()
 		return ok
-	case opSelect:
+	case opcode.Select:
 		return w.selectOne()
-	case opBlock:
+	case opcode.Block:
 		return w.block(in.Result, in.Result, in.Body)
-	case opLoop:
+	case opcode.Loop:
 		return w.block(api.None, in.Result, in.Body)
-	case opIf:
+	case opcode.If:
 		return w.take(api.I32) && w.block(in.Result, in.Result, in.Body, in.Else)
 	}
 	t, ok := w.sign(in)
@@ -105,7 +84,7 @@ func (w *walk) instr(in api.Instr) bool {
 
 // goesOff says whether what stands behind an instruction is never come to from it.
 func goesOff(op byte) bool {
-	return op == opUnreachable || op == opBr || op == opBrTable || op == opReturn
+	return op == opcode.Unreachable || op == opcode.Br || op == opcode.BrTable || op == opcode.Return
 }
 
 // block goes over lists that stand for one another, and lays what each of them gives.
@@ -186,32 +165,32 @@ func (w *walk) apply(t api.Type) bool {
 // sign is what an instruction takes (None among it is nothing), and what it gives; false, if it may not be there.
 func (w *walk) sign(in api.Instr) (api.Type, bool) {
 	switch in.Op {
-	case opNop, opUnreachable:
+	case opcode.Nop, opcode.Unreachable:
 		return api.Type{}, true
-	case opReturn:
+	case opcode.Return:
 		return takes(w.labels[0]), true
-	case opBr:
+	case opcode.Br:
 		k, ok := w.label(in.N)
 		return takes(k), ok
-	case opBrIf:
+	case opcode.BrIf:
 		k, ok := w.label(in.N)
 		return api.Type{Params: []api.Kind{k, api.I32}, Result: k}, ok
-	case opBrTable:
+	case opcode.BrTable:
 		k, ok := w.commonLabel(in.Labels)
 		return takes(k, api.I32), ok
-	case opCall:
+	case opcode.Call:
 		return typeOf(w.module, in.N)
-	case opCallIndirect:
+	case opcode.CallIndirect:
 		t, ok := item(w.module.Types, in.N)
 		t.Params = slices.Concat(t.Params, []api.Kind{api.I32})
 		return t, ok && len(w.module.Tables) > 0
-	case opLocalGet, opLocalSet, opLocalTee:
+	case opcode.LocalGet, opcode.LocalSet, opcode.LocalTee:
 		k, ok := item(w.locals, in.N)
 		return localSign(in.Op, k), ok
-	case opGlobalGet:
+	case opcode.GlobalGet:
 		g, ok := item(w.module.Globals, in.N)
 		return api.Type{Result: g.Kind}, ok
-	case opGlobalSet:
+	case opcode.GlobalSet:
 		g, ok := item(w.module.Globals, in.N)
 		return takes(g.Kind), ok && g.Mut
 	}
@@ -222,9 +201,9 @@ func takes(params ...api.Kind) api.Type { return api.Type{Params: params} }
 
 func localSign(op byte, k api.Kind) api.Type {
 	switch op {
-	case opLocalGet:
+	case opcode.LocalGet:
 		return api.Type{Result: k}
-	case opLocalSet:
+	case opcode.LocalSet:
 		return takes(k)
 	}
 	return api.Type{Params: []api.Kind{k}, Result: k}

@@ -3,104 +3,14 @@ package valid_test
 import (
 	"errors"
 	"slices"
-	"strconv"
-	"strings"
 	"testing"
 
 	"mandrel/api"
-	"mandrel/ops"
+	"mandrel/notation"
 )
 
-// A body is noted by the instructions' names, with a blank between any two words: behind a name its number, or its Align, where it has one; behind br_table its labels, and a ;; behind block, loop and if a Result, if there is one, and ( instructions ), behind those of an if else ( instructions ), if there are some.
-
-// notes are the words of a body that are not read yet.
-type notes struct {
-	words []string
-}
-
 // code is the instructions of a note.
-func code(text string) []api.Instr {
-	n := notes{strings.Fields(text)}
-	l := n.list()
-	if len(n.words) > 0 {
-		panic("left over: " + strings.Join(n.words, " "))
-	}
-	return l
-}
-
-// has takes a word, if it comes next.
-func (n *notes) has(word string) bool {
-	if len(n.words) == 0 || n.words[0] != word {
-		return false
-	}
-	n.words = n.words[1:]
-	return true
-}
-
-func (n *notes) number() int64 {
-	v, err := strconv.ParseInt(n.words[0], 10, 64)
-	if err != nil {
-		panic(err)
-	}
-	n.words = n.words[1:]
-	return v
-}
-
-// list takes instructions up to a ), or to the end.
-func (n *notes) list() []api.Instr {
-	var l []api.Instr
-	for len(n.words) > 0 && n.words[0] != ")" {
-		l = append(l, n.instr())
-	}
-	return l
-}
-
-func (n *notes) inBrackets() []api.Instr {
-	if !n.has("(") {
-		panic("no (")
-	}
-	l := n.list()
-	if !n.has(")") {
-		panic("no )")
-	}
-	return l
-}
-
-func (n *notes) instr() api.Instr {
-	op, err := ops.Op(n.words[0])
-	if err != nil {
-		panic(n.words[0])
-	}
-	n.words = n.words[1:]
-	in := api.Instr{Op: op}
-	switch form, _ := ops.Form(op); form {
-	case ops.Const32, ops.Const64, ops.Index, ops.Call:
-		in.N = n.number()
-	case ops.Address:
-		in.Align = uint32(n.number())
-	case ops.Table:
-		for !n.has(";") {
-			in.Labels = append(in.Labels, uint32(n.number()))
-		}
-	case ops.Block, ops.If:
-		in.Result = n.kind()
-		in.Body = n.inBrackets()
-		if n.has("else") {
-			in.Else = n.inBrackets()
-		}
-	}
-	return in
-}
-
-func (n *notes) kind() api.Kind {
-	switch {
-	case n.has("i32"):
-		return api.I32
-	case n.has("i64"):
-		return api.I64
-	}
-	return api.None
-}
+func code(text string) []api.Instr { return notation.Code(text) }
 
 // The types of bench, by what they take and give: i of I32, I of I64.
 const (
