@@ -23,4 +23,18 @@ const (
 	GlobalSet    = 0x24
 	MemorySize   = 0x3f
 	MemoryGrow   = 0x40
+	Const32      = 0x41
+	Const64      = 0x42
+	FirstDiv32   = 0x6d // the first and the last of those that divide, of each kind
+	LastRem32    = 0x70
+	FirstDiv64   = 0x7f
+	LastRem64    = 0x82
+)
+
+// The numbers of those that are of code of registers alone, as chapter 11 has them.
+const (
+	Move   = 0xc0
+	Jump   = 0xc1
+	Branch = 0xc2
+	Table  = 0xc3
 )

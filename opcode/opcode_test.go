@@ -30,6 +30,12 @@ func TestNumbers(t *testing.T) {
 		opcode.GlobalSet:    "global.set",
 		opcode.MemorySize:   "memory.size",
 		opcode.MemoryGrow:   "memory.grow",
+		opcode.Const32:      "i32.const",
+		opcode.Const64:      "i64.const",
+		opcode.FirstDiv32:   "i32.div_s",
+		opcode.LastRem32:    "i32.rem_u",
+		opcode.FirstDiv64:   "i64.div_s",
+		opcode.LastRem64:    "i64.rem_u",
 	} {
 		if got := ops.Name(op); got != name {
 			t.Errorf("%#x is %s, want %s", op, got, name)
