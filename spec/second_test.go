@@ -10,6 +10,7 @@ import (
 	"mandrel/inst"
 	"mandrel/num"
 	"mandrel/ops"
+	"mandrel/sample"
 	"mandrel/spec"
 	"mandrel/valid"
 )
@@ -270,213 +271,13 @@ func TestSecondOfTrials(t *testing.T) {
 	}
 }
 
-// maker makes modules that may run.
-type maker struct {
-	*rand.Rand
-	m      api.Module
-	locals []api.Kind
-	result api.Kind
-}
-
-func pickOne[T any](k *maker, l ...T) T { return l[k.Intn(len(l))] }
-
-// value is instructions that give one of a kind, mostly a small one.
-func (k *maker) value(kind api.Kind) []api.Instr {
-	at := k.Intn(len(k.locals) + 1)
-	switch {
-	case kind == api.None:
-		return nil
-	case k.Intn(3) > 0 && at < len(k.locals) && k.locals[at] == kind:
-		return []api.Instr{{Op: 0x20, N: int64(at)}}
-	case k.Intn(4) == 0:
-		g := slices.IndexFunc(k.m.Globals, func(g api.Global) bool { return g.Kind == kind })
-		return []api.Instr{{Op: 0x23, N: int64(g)}}
-	case kind == api.I32:
-		return []api.Instr{i32(pickOne[int64](k, 0, 0, 1, 2, 3, 5, 40, 4092, 8190, -1, -5, 1<<31-1, -1<<31))}
-	}
-	return []api.Instr{i64(pickOne[int64](k, 0, 0, 1, 2, 3, 7, 33, -1, -9, 1<<32, 1<<40+7, 1<<63-1, -1<<63))}
-}
-
-// values are of some kinds, the last one at the top.
-func (k *maker) values(l ...api.Kind) []api.Instr {
-	var out []api.Instr
-	for _, kind := range l {
-		out = append(out, k.value(kind)...)
-	}
-	return out
-}
-
-// body is a list that is being made.
-type body struct {
-	list  []api.Instr
-	stack []api.Kind
-}
-
-// put puts instructions that take nothing of the stack, and leave a kind.
-func (b *body) put(leaves api.Kind, l ...api.Instr) {
-	b.list = append(b.list, l...)
-	b.stack = append(b.stack, kinds(leaves)...)
-}
-
-// instrs makes a list that leaves just its result; labels hand on such kinds, the innermost one first.
-func (k *maker) instrs(labels []api.Kind, result api.Kind, loop bool, nest int) []api.Instr {
-	var b body
-	for range k.Intn(7) {
-		switch k.Intn(10) {
-		case 0, 1, 2:
-			k.plain(&b)
-		case 3:
-			k.fold(&b)
-		case 4, 5:
-			if nest > 0 {
-				k.block(&b, labels, nest-1)
-			}
-		case 6:
-			n := k.Intn(len(labels))
-			b.put(labels[n], append(k.values(labels[n], api.I32), api.Instr{Op: 0x0d, N: int64(n)})...)
-		case 7:
-			k.callOne(&b)
-		case 8:
-			if k.Intn(6) == 0 {
-				return append(b.list, k.leave(labels)...)
-			}
-		case 9:
-			kind := pickOne(k, api.I32, api.I64)
-			b.put(kind, append(k.values(kind, kind, api.I32), api.Instr{Op: 0x1b})...)
-		}
-	}
-	if slices.Equal(b.stack, kinds(result)) {
-		return b.list
-	}
-	if !loop && k.Intn(2) == 0 {
-		return append(append(b.list, k.value(result)...), api.Instr{Op: 0x0c})
-	}
-	for range b.stack {
-		b.list = append(b.list, api.Instr{Op: 0x1a})
-	}
-	return append(b.list, k.value(result)...)
-}
-
-// plain puts one of layer 4's instructions with a sign.
-func (k *maker) plain(b *body) {
-	// The one quotient that is none comes too seldom by itself.
-	if k.Intn(200) == 0 {
-		b.put(api.I32, i32(-1<<31), i32(-1), api.Instr{Op: 0x6d})
-	}
-	for {
-		op := byte(k.Intn(256))
-		sign, err := ops.Sign(op)
-		if form, _ := ops.Form(op); err != nil || form == ops.Const32 || form == ops.Const64 || form == ops.Memory && k.Intn(3) > 0 {
-			continue
-		}
-		in := api.Instr{Op: op}
-		if _, _, err := ops.Bytes(op); err == nil {
-			in.Offset = pickOne[uint32](k, 0, 0, 1, 7, 4080, 1<<32-1)
-		}
-		// What it takes first may stand there already.
-		takes := sign.Params
-		if n := len(b.stack); n > 0 && len(takes) > 0 && b.stack[n-1] == takes[0] {
-			b.stack, takes = b.stack[:n-1], takes[1:]
-		}
-		b.put(sign.Result, append(k.values(takes...), in)...)
-		return
-	}
-}
-
-// fold takes the uppermost value away, or leaves it as it is.
-func (k *maker) fold(b *body) {
-	n := len(b.stack)
-	if n == 0 {
-		return
-	}
-	kind := b.stack[n-1]
-	b.stack = b.stack[:n-1]
-	l, g := k.Intn(len(k.locals)+1), k.Intn(len(k.m.Globals))
-	switch {
-	case l < len(k.locals) && k.locals[l] == kind:
-		op := pickOne[byte](k, 0x21, 0x22)
-		b.put(map[byte]api.Kind{0x22: kind}[op], api.Instr{Op: op, N: int64(l)})
-	case k.m.Globals[g].Kind == kind && k.m.Globals[g].Mut:
-		b.put(api.None, api.Instr{Op: 0x24, N: int64(g)})
-	default:
-		b.put(api.None, api.Instr{Op: 0x1a})
-	}
-}
-
-func (k *maker) block(b *body, labels []api.Kind, nest int) {
-	in := api.Instr{Op: pickOne[byte](k, 0x02, 0x03, 0x04), Result: pickOne(k, api.None, api.I32, api.I64)}
-	hands := in.Result
-	if in.Op == 0x03 {
-		hands = api.None
-	}
-	labels = append([]api.Kind{hands}, labels...)
-	in.Body = k.instrs(labels, in.Result, in.Op == 0x03, nest)
-	if in.Op == 0x04 {
-		in.Else = k.instrs(labels, in.Result, false, nest)
-		b.put(api.None, k.value(api.I32)...)
-	}
-	b.put(in.Result, in)
-}
-
-func (k *maker) callOne(b *body) {
-	if k.Intn(2) == 0 {
-		f := k.Intn(len(k.m.Funcs))
-		t := k.m.Types[k.m.Funcs[f].Type]
-		b.put(t.Result, append(k.values(t.Params...), api.Instr{Op: 0x10, N: int64(f)})...)
-		return
-	}
-	typ := k.Intn(len(k.m.Types))
-	t := k.m.Types[typ]
-	at := i32(int64(k.Intn(len(k.m.Funcs) + 2)))
-	b.put(t.Result, append(k.values(t.Params...), at, api.Instr{Op: 0x11, N: int64(typ)})...)
-}
-
-// leave goes off, out of anything.
-func (k *maker) leave(labels []api.Kind) []api.Instr {
-	n := k.Intn(len(labels))
-	switch k.Intn(7) {
-	case 0:
-		return code("unreachable")
-	case 1:
-		return append(k.value(k.result), api.Instr{Op: 0x0f})
-	case 2, 3:
-		return append(k.value(labels[n]), api.Instr{Op: 0x0c, N: int64(n)})
-	}
-	in := api.Instr{Op: 0x0e}
-	for i, hands := range labels {
-		if hands == labels[n] && k.Intn(4) > 0 {
-			in.Labels = append(in.Labels, uint32(i))
-		}
-	}
-	in.Labels = append(in.Labels, uint32(n))
-	return append(k.values(labels[n], api.I32), in)
-}
-
-// module is one that may run, all of whose functions are made.
-func (k *maker) module() api.Module {
-	k.m = bench(typeNone, nil)
-	k.m.Funcs = nil
-	for range 6 {
-		k.m.Funcs = append(k.m.Funcs, api.Func{Type: uint32(k.Intn(len(k.m.Types))), Locals: []api.Kind{api.I32, api.I64, api.I32}})
-	}
-	k.m.Tables[0].Min = uint32(len(k.m.Funcs) + 1)
-	k.m.Elems[0].Funcs = []uint32{0, 1, 2, 3, 4, 5}
-	for i := range k.m.Funcs {
-		f := &k.m.Funcs[i]
-		t := k.m.Types[f.Type]
-		k.locals, k.result = slices.Concat(t.Params, f.Locals), t.Result
-		f.Body = k.instrs([]api.Kind{t.Result}, t.Result, false, 4)
-	}
-	return k.m
-}
-
 // TestMadeModules: calls of made modules, one after another, end as the second reading says, and leave what it leaves.
 func TestMadeModules(t *testing.T) {
-	k := &maker{Rand: rand.New(rand.NewSource(10))}
+	k := &sample.Maker{Intn: rand.New(rand.NewSource(10)).Intn}
 	var ends [api.Fuel + 1]int
 	steps := 0
 	for i := range 8000 {
-		m := k.module()
+		m := k.Module()
 		if f, err := valid.Check(m); err != nil {
 			t.Fatalf("module %d: %d, %v: %v", i, f, err, m.Funcs[f].Body)
 		}
@@ -486,12 +287,8 @@ func TestMadeModules(t *testing.T) {
 		}
 		s := readAgain(t, m)
 		for range 8 {
-			f, fuel := k.Intn(len(m.Funcs)), pickOne(k, k.Intn(40), 300, 3000)
-			var args []uint64
-			for _, kind := range m.Types[m.Funcs[f].Type].Params {
-				v, _ := num.Value(kind, pickOne[int64](k, 0, 1, 2, 9, -1, 4093))
-				args = append(args, v)
-			}
+			f, fuel := k.Intn(len(m.Funcs)), sample.One(k, k.Intn(40), 300, 3000)
+			args := k.Args(m, f)
 			got, want := call(t, x, f, args, fuel), s.outcome(f, args, fuel)
 			if !same(got, want) {
 				t.Fatalf("module %d, function %d with %v and fuel %d: %v, want %v: %v", i, f, args, fuel, got, want, m.Funcs)

@@ -10,6 +10,7 @@ import (
 	"mandrel/api"
 	"mandrel/inst"
 	"mandrel/notation"
+	"mandrel/sample"
 	"mandrel/spec"
 )
 
@@ -19,80 +20,24 @@ const plenty = 1_000_000
 // code is the instructions of a note.
 func code(text string) []api.Instr { return notation.Code(text) }
 
-// The numbers of bench's types: i is I32, I is I64.
+// The module that the tests here are made of, and the numbers of what it has: package sample tells what these are.
 const (
-	typeNone   = iota // nothing
-	typeI             // gives i
-	typeBigI          // gives I
-	typeII            // takes i, gives i
-	typeTwo           // takes i and i, gives i
-	typeMixed         // takes i, I and i, gives I
-	typeTakesI        // takes i
-	typeBigII         // takes I, gives I
-	typeNoneAgain
+	typeNone  = sample.TypeNone
+	typeI     = sample.TypeI
+	typeBigI  = sample.TypeBigI
+	typeII    = sample.TypeII
+	typeTwo   = sample.TypeTwo
+	typeMixed = sample.TypeMixed
+
+	funcTold  = sample.FuncTold
+	funcPuts  = sample.FuncPuts
+	funcEmpty = sample.FuncEmpty
+	funcBack  = sample.FuncBack
+
+	entryNone = sample.EntryNone
 )
 
-// The numbers of bench's functions. Function 0 is the one that is tested.
-const (
-	funcTold   = iota + 1 // of typeNone: one more in global 0
-	funcLess              // of typeTwo: the first less the second
-	funcDigits            // of typeMixed: the first times 10,000, the second times 100, and the third
-	funcPuts              // of typeTakesI: stored at 100
-	funcBad               // of typeNone: unreachable
-	funcEmpty             // of typeNone: nothing
-	funcBack              // of typeI: 21, out of blocks
-)
-
-// The entries of bench's table, which has benchTable of them, and where there is none.
-const (
-	entryTold = iota
-	entryLess
-	entryDigits
-	entryPuts
-	entryTested
-	entryBad
-	entryNone
-	benchTable
-)
-
-// bench is a module that has some of all; its function 0 is that of a type, and has a body, and beside its Params the Locals i and I.
-func bench(typ uint32, body []api.Instr) api.Module {
-	i, big := api.I32, api.I64
-	return api.Module{
-		Types: []api.Type{
-			typeNone:      {},
-			typeI:         {Result: i},
-			typeBigI:      {Result: big},
-			typeII:        {Params: []api.Kind{i}, Result: i},
-			typeTwo:       {Params: []api.Kind{i, i}, Result: i},
-			typeMixed:     {Params: []api.Kind{i, big, i}, Result: big},
-			typeTakesI:    {Params: []api.Kind{i}},
-			typeBigII:     {Params: []api.Kind{big}, Result: big},
-			typeNoneAgain: {},
-		},
-		Funcs: []api.Func{
-			{Type: typ, Locals: []api.Kind{i, big}, Body: body},
-			funcTold:   {Type: typeNone, Body: code("global.get 0 i32.const 1 i32.add global.set 0")},
-			funcLess:   {Type: typeTwo, Body: code("local.get 0 local.get 1 i32.sub")},
-			funcDigits: {Type: typeMixed, Body: code("local.get 0 i64.extend_i32_u i64.const 10000 i64.mul local.get 1 i64.const 100 i64.mul i64.add local.get 2 i64.extend_i32_u i64.add")},
-			funcPuts:   {Type: typeTakesI, Body: code("i32.const 100 local.get 0 i32.store 2")},
-			funcBad:    {Type: typeNone, Body: code("unreachable")},
-			funcEmpty:  {Type: typeNone},
-			funcBack:   {Type: typeI, Body: code("i32.const 19 block ( i32.const 20 loop ( i32.const 21 return ) drop )")},
-		},
-		Tables:   []api.Limits{{Min: benchTable}},
-		Memories: []api.Limits{{Min: 1, Has: true, Max: 3}},
-		Globals: []api.Global{
-			{Kind: i, Mut: true, Init: api.Instr{Op: 0x41, N: 5}},
-			{Kind: big, Init: api.Instr{Op: 0x42, N: -7}},
-			{Kind: big, Mut: true, Init: api.Instr{Op: 0x42, N: math.MaxInt64}},
-			{Kind: i, Init: api.Instr{Op: 0x41, N: -2}},
-		},
-		Exports: []api.Export{{Name: "run"}, {Name: "memory", What: 2}},
-		Elems:   []api.Elem{{Offset: api.Instr{Op: 0x41}, Funcs: []uint32{funcTold, funcLess, funcDigits, funcPuts, 0, funcBad}}},
-		Datas:   []api.Data{{Offset: api.Instr{Op: 0x41, N: 8}, Bytes: []byte{0x81, 0x92, 0xa3, 0xb4, 0xc5, 0xd6, 0xe7, 0xf8}}},
-	}
-}
+func bench(typ uint32, body []api.Instr) api.Module { return sample.Bench(typ, body) }
 
 // trial is a body, what it is called with, and how it must end.
 type trial struct {
