@@ -9,158 +9,35 @@ import (
 	"mandrel/inst"
 	"mandrel/lower"
 	"mandrel/notation"
-	"mandrel/num"
-	"mandrel/opcode"
 	"mandrel/sample"
 	"mandrel/spec"
-	"mandrel/vcode"
+	"mandrel/vrun"
 )
 
-// LO2: what such code does.
+// LO2: what such code does, by layer 13, held against layer 10.
 
 // plenty is more fuel than a body here uses up, unless it never ends.
 const plenty = 100_000
 
-// run does code as chapters 11 and 13 say; calls stand in one another as Go's do, a trap is a panic.
-type run struct {
-	m     api.Module
-	codes []vcode.Code
-	state *inst.State
-	fuel  int
-	used  int
-}
-
-// trapped is what a trap panics with.
-type trapped api.Trap
-
-// start begins with what a module begins with, and with all its code.
-func start(t *testing.T, m api.Module) *run {
+// machine is one of layer 13, with all code of a module.
+func machine(t *testing.T, what string, m api.Module) *vrun.Machine {
 	t.Helper()
-	s, _, err := inst.New(m)
-	if err != nil {
-		t.Fatal(err)
-	}
 	l, err := lower.All(m)
 	if err != nil {
-		t.Fatal(err)
+		t.Fatalf("%s: All: %v", what, err)
 	}
-	return &run{m: m, codes: l, state: s}
-}
-
-func (r *run) outcome(f int, args []uint64, fuel int) (o inst.Outcome) {
-	r.fuel, r.used = fuel, 0
-	defer func() {
-		if p := recover(); p != nil {
-			o = inst.Outcome{Trap: api.Trap(p.(trapped)), Used: r.used}
-		}
-	}()
-	v := r.call(f, args, 1)
-	return inst.Outcome{Values: v, Used: r.used}
-}
-
-func (r *run) call(f int, args []uint64, depth int) []uint64 {
-	if depth > api.MaxDepth {
-		panic(trapped(api.Depth))
-	}
-	c := r.codes[f]
-	regs := make([]uint64, c.Regs)
-	copy(regs, args)
-	for at := 0; ; {
-		b := c.Blocks[at]
-		for _, in := range b.Ins {
-			if r.used == r.fuel {
-				panic(trapped(api.Fuel))
-			}
-			r.used++
-			var src []uint64
-			for _, s := range in.Src {
-				src = append(src, regs[s])
-			}
-			switch in.Op {
-			case opcode.Unreachable:
-				panic(trapped(api.Unreachable))
-			case opcode.Return:
-				return src
-			case vcode.Jump:
-				at = b.Next[0]
-			case vcode.Branch:
-				at = b.Next[0]
-				if src[0] == 0 {
-					at = b.Next[1]
-				}
-			case vcode.Table:
-				at = b.Next[min(int(uint32(src[0])), len(b.Next)-1)]
-			default:
-				if v := r.value(in, src, depth); len(v) > 0 {
-					regs[in.Dst] = v[0]
-				}
-			}
-		}
-	}
-}
-
-// value is what an instruction gives that is no end, or nothing.
-func (r *run) value(in vcode.Ins, src []uint64, depth int) []uint64 {
-	switch in.Op {
-	case opcode.Const64:
-		return []uint64{uint64(in.N)}
-	case vcode.Move:
-		return src
-	case opcode.Select:
-		if src[2] == 0 {
-			return src[1:]
-		}
-		return src
-	case opcode.GlobalGet:
-		return []uint64{r.state.Globals[in.N]}
-	case opcode.GlobalSet:
-		r.state.Globals[in.N] = src[0]
-		return nil
-	case opcode.MemorySize:
-		return []uint64{uint64(r.state.Mem.Pages())}
-	case opcode.MemoryGrow:
-		return []uint64{uint64(uint32(r.state.Mem.Grow(src[0])))}
-	case opcode.Call:
-		return r.call(int(in.N), src, depth+1)
-	case opcode.CallIndirect:
-		f, trap, err := inst.Pick(r.m, r.state, in.N, src[0])
-		well(trap, err)
-		return r.call(f, src[1:], depth+1)
-	}
-	return r.plain(in, src)
-}
-
-// plain is of loads, stores and numbers.
-func (r *run) plain(in vcode.Ins, src []uint64) []uint64 {
-	if v, trap, err := inst.Load(r.state.Mem, in.Op, src[0], in.Offset); err == nil {
-		well(trap, nil)
-		return []uint64{v}
-	}
-	if v, err := num.One(in.Op, src[0]); err == nil {
-		return []uint64{v}
-	}
-	if v, trap, err := num.Two(in.Op, src[0], src[1]); err == nil {
-		well(trap, nil)
-		return []uint64{v}
-	}
-	well(inst.Store(r.state.Mem, in.Op, src[0], in.Offset, src[1]))
-	return nil
-}
-
-func well(trap api.Trap, err error) {
+	x, trap, err := vrun.New(m, l)
 	if err != nil {
-		panic(err)
+		t.Fatalf("%s: New: %d, %v", what, trap, err)
 	}
-	if trap != api.Well {
-		panic(trapped(trap))
-	}
+	return x
 }
 
 // pair is a module by both machines.
 type pair struct {
 	what  string
 	stack *spec.Machine
-	regs  *run
+	regs  *vrun.Machine
 }
 
 func pairOf(t *testing.T, what string, m api.Module) pair {
@@ -169,7 +46,7 @@ func pairOf(t *testing.T, what string, m api.Module) pair {
 	if err != nil {
 		t.Fatalf("%s: %v", what, err)
 	}
-	return pair{what, x, start(t, m)}
+	return pair{what, x, machine(t, what, m)}
 }
 
 // hold calls a function by both, and is how that ended by the stack machine; where that was by the trap Fuel, both may have come to other places.
@@ -182,11 +59,12 @@ func (p pair) hold(t *testing.T, f int, args []uint64, fuel int) inst.Outcome {
 	if want.Trap == api.Fuel {
 		return want
 	}
-	got := p.regs.outcome(f, args, 3*want.Used+3)
-	if got.Trap != want.Trap || !slices.Equal(got.Values, want.Values) {
-		t.Fatalf("%s, function %d with %v: %v, want %v", p.what, f, args, got, want)
+	// Just as much fuel as LO2 has steps: where there are more of them, the trap is Fuel.
+	got, err := p.regs.Call(f, args, 3*want.Used+3)
+	if err != nil || got.Trap != want.Trap || !slices.Equal(got.Values, want.Values) {
+		t.Fatalf("%s, function %d with %v: %v, %v, want %v", p.what, f, args, got, err, want)
 	}
-	if !inst.Same(p.regs.state, p.stack.State()) {
+	if !inst.Same(p.regs.State(), p.stack.State()) {
 		t.Fatalf("%s, function %d with %v: the states are not the same", p.what, f, args)
 	}
 	return want
@@ -253,9 +131,9 @@ func TestByHand(t *testing.T) {
 		{sample.TypeNone, "loop ( i64.const 1 i32.const 9 br_table 0 0 ; )", nil, inst.Outcome{Trap: api.Fuel}},
 		{sample.TypeNone, "loop ( loop ( block ( br 2 ) ) )", nil, inst.Outcome{Trap: api.Fuel}},
 	} {
-		got := start(t, bench(c.typ, c.text)).outcome(0, c.args, plenty)
-		if got.Trap != c.want.Trap || !slices.Equal(got.Values, c.want.Values) {
-			t.Errorf("%s with %v: %v, want %v", c.text, c.args, got, c.want)
+		got, err := machine(t, c.text, bench(c.typ, c.text)).Call(0, c.args, plenty)
+		if err != nil || got.Trap != c.want.Trap || !slices.Equal(got.Values, c.want.Values) {
+			t.Errorf("%s with %v: %v, %v, want %v", c.text, c.args, got, err, c.want)
 		}
 	}
 }

@@ -1,6 +1,7 @@
 package sample_test
 
 import (
+	"fmt"
 	"math/rand"
 	"testing"
 
@@ -10,7 +11,9 @@ import (
 	"mandrel/opcode"
 	"mandrel/ops"
 	"mandrel/sample"
+	"mandrel/shape"
 	"mandrel/valid"
+	"mandrel/vcode"
 )
 
 func TestBench(t *testing.T) {
@@ -72,4 +75,48 @@ func TestMade(t *testing.T) {
 			t.Errorf("%s: %d times behind br and such", name, c.behind[op])
 		}
 	}
+}
+
+// TestMadeCodes: made code is that of its functions, and has each instruction; nothing of the module is changed by it.
+func TestMadeCodes(t *testing.T) {
+	k := &sample.Maker{Intn: rand.New(rand.NewSource(2)).Intn}
+	var each [256]int
+	for i := range 1500 {
+		m := k.Module()
+		before := fmt.Sprint(m)
+		l := k.Codes(m)
+		if fmt.Sprint(m) != before {
+			t.Fatalf("module %d was changed", i)
+		}
+		if len(l) != len(m.Funcs) {
+			t.Fatalf("module %d: %d codes", i, len(l))
+		}
+		for f, c := range l {
+			if err := vcode.Fits(m, f, c); err != nil {
+				t.Fatalf("module %d, function %d: %v: %v", i, f, err, c)
+			}
+			for _, b := range c.Blocks {
+				for _, in := range b.Ins {
+					each[in.Op]++
+				}
+			}
+		}
+	}
+	for op := range 256 {
+		if ofVirtual(byte(op)) && each[op] < 50 {
+			t.Errorf("%s: %d times", shape.Name(byte(op)), each[op])
+		}
+	}
+}
+
+// ofVirtual says whether there is such an instruction in code of virtual registers, however many of them it takes.
+func ofVirtual(op byte) bool {
+	for takes := range 4 {
+		for _, dst := range []int{-1, 0} {
+			if shape.May(shape.Ins{Op: op, Dst: dst, Src: make([]int, takes)}, false) {
+				return true
+			}
+		}
+	}
+	return false
 }
