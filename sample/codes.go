@@ -117,6 +117,10 @@ func (k *Maker) virtualPlain(l *coded) {
 	}
 	in, sign := k.withSign()
 	src := k.some(l, len(sign.Params))
+	// What registers hold is mostly far too much to grow by.
+	if in.Op == opcode.MemoryGrow && k.Intn(4) > 0 {
+		src[0] = k.laid(l, One[int64](k, 0, 1, 1, 2, 9)+One[int64](k, 0, 1<<32, -1<<32))
+	}
 	if shape.Accesses(in.Op) && k.Intn(4) > 0 {
 		in.Offset %= 8
 		src[0] = k.laid(l, One[int64](k, 0, 8, 13, 4000, 1<<32+40))

@@ -78,11 +78,17 @@ func (r *run) straight(in *api.Instr) api.Trap {
 	case opcode.MemorySize:
 		r.lay(uint64(r.state.Mem.Pages()))
 	case opcode.MemoryGrow:
-		r.lay(uint64(uint32(r.state.Mem.Grow(r.take()))))
+		r.lay(r.grown(r.take()))
 	default:
 		return r.byForm(in)
 	}
 	return api.Well
+}
+
+// grown is what memory.grow gives. It takes an I32: of a value that has more, as whoever was handed the state may lay one into a global, the upper 32 bits ask for no page.
+func (r *run) grown(more uint64) uint64 {
+	before := r.state.Mem.Grow(uint64(uint32(more)))
+	return uint64(uint32(before))
 }
 
 // byForm does a const, a load or store, or an instruction of numbers.

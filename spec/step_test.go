@@ -3,6 +3,7 @@ package spec_test
 import (
 	"fmt"
 	"math"
+	"slices"
 	"strings"
 	"testing"
 
@@ -243,6 +244,20 @@ func TestMemoryPages(t *testing.T) {
 	m.Memories = []api.Limits{{Min: 1}}
 	if o := call(t, machine(t, m), 0, nil, plenty); len(o.Values) != 1 || o.Values[0] != 15 {
 		t.Errorf("up to 16 pages: %v, want 15", o)
+	}
+}
+
+// TestGrowOfMoreBits: memory.grow takes an I32. Of a value that has more, which only whoever has the state can lay, the upper 32 bits are left out.
+func TestGrowOfMoreBits(t *testing.T) {
+	for _, c := range []struct{ n, gives, pages uint64 }{
+		{1 << 32, 1, 1}, {1<<32 + 1, 1, 2}, {1<<32 + 2, 1, 3}, {1<<32 + 3, 1<<32 - 1, 1}, {1<<64 - 1<<32, 1, 1}, {1<<64 - 1<<32 + 1, 1, 2}, {1<<64 - 1, 1<<32 - 1, 1},
+	} {
+		x := machine(t, bench(typeI, code("global.get 0 memory.grow")))
+		x.State().Globals[0] = c.n
+		o := call(t, x, 0, nil, plenty)
+		if pages := x.State().Mem.Pages(); !slices.Equal(o.Values, give(c.gives)) || uint64(pages) != c.pages {
+			t.Errorf("by %d: %v, pages %d, want %d, pages %d", c.n, o, pages, c.gives, c.pages)
+		}
 	}
 }
 

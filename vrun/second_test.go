@@ -156,11 +156,11 @@ func (s *second) plain(in vcode.Ins, name string, src []uint64) ([]uint64, api.T
 	case "memory.size":
 		return []uint64{uint64(len(s.bytes) / api.PageSize)}, 0
 	case "memory.grow":
-		had := len(s.bytes) / api.PageSize
-		if src[0] > uint64(s.most-had) {
+		had, more := len(s.bytes)/api.PageSize, src[0]%(1<<32)
+		if more > uint64(s.most-had) {
 			return []uint64{1<<32 - 1}, 0
 		}
-		s.bytes = append(s.bytes, make([]byte, src[0]*api.PageSize)...)
+		s.bytes = append(s.bytes, make([]byte, more*api.PageSize)...)
 		return []uint64{uint64(had)}, 0
 	}
 	if strings.Contains(name, ".load") || strings.Contains(name, ".store") {
@@ -217,6 +217,7 @@ func TestSecondOfTrials(t *testing.T) {
 		{"one more", typeII, deep("r0 = const 7; return r0"), with(64), nil, api.Depth, 64 * 4},
 		{"a table", typeBigII, "table r0 -> 3 1 1 2 4" + lands(4), with(1<<32 + 3), give(20), 0, 3},
 		{"a branch", typeBigII, "branch r0 -> 1 2" + lands(2), with(1 << 32), give(10), 0, 3},
+		{"a growth by more than 32 bits", typeBigII, "r1 = memory.grow r0; r2 = memory.grow r0; r3 = memory.grow r0; r4 = memory.size; return r4", with(1<<32 + 1), give(3), 0, 5},
 		{"a load", typeBigI, "r1 = const 3; r2 = i64.load16_s r1 +5; return r2", nil, give(0xffffffffffff9281), 0, 3},
 	} {
 		if got := readAgain(t, bench(c.typ), codes(c.typ, c.text)).outcome(0, c.args, plenty); !same(got, c.want()) {

@@ -26,7 +26,7 @@ func (c *call) step(in *vcode.Ins) (uint64, api.Trap) {
 	case opcode.MemorySize:
 		return uint64(c.state.Mem.Pages()), api.Well
 	case opcode.MemoryGrow:
-		return uint64(uint32(c.state.Mem.Grow(c.taken(in, 0)))), api.Well
+		return c.grown(c.taken(in, 0)), api.Well
 	case opcode.Call:
 		return c.enter(int(in.N), c.values(in.Src))
 	case opcode.CallIndirect:
@@ -57,6 +57,12 @@ func (c *call) setGlobal(n int64, v uint64) {
 	if n < int64(len(c.state.Globals)) {
 		c.state.Globals[n] = v
 	}
+}
+
+// grown is what memory.grow gives. It takes an I32: of a register that holds more the upper 32 bits ask for no page.
+func (c *call) grown(more uint64) uint64 {
+	before := c.state.Mem.Grow(uint64(uint32(more)))
+	return uint64(uint32(before))
 }
 
 func (c *call) callIndirect(in *vcode.Ins) (uint64, api.Trap) {

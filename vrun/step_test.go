@@ -225,11 +225,47 @@ func TestMemoryPages(t *testing.T) {
 		{"memory.grow by all", typeII, "r4 = memory.grow r0; r4 = memory.size; return r4", with(2), give(3), 0, 3},
 		{"memory.grow by one too many", typeII, "r4 = memory.grow r0; return r4", with(3), give(1<<32 - 1), 0, 2},
 		{"memory.grow by 2^32 - 1", typeII, "r4 = memory.grow r0; return r4", with(1<<32 - 1), give(1<<32 - 1), 0, 2},
-		{"memory.grow by 2^32 is no growth by 0", typeBigII, "r4 = memory.grow r0; return r4", with(1 << 32), give(1<<32 - 1), 0, 2},
 		{"memory.grow in vain changes nothing", typeII, "r4 = memory.grow r0; r4 = memory.size; return r4", with(3), give(1), 0, 3},
 		{"memory.grow when all are there", typeII, "r4 = memory.grow r0; r4 = memory.grow r0; return r4", with(2), give(1<<32 - 1), 0, 3},
 		{"a new page has noughts", typeII, "r4 = memory.grow r0; r5 = const 8188; r4 = i32.load r5 +0; return r4", with(1), give(0), 0, 4},
 		{"a new page has an end", typeII, "r4 = memory.grow r0; r5 = const 8189; r4 = i32.load r5 +0; return r4", with(1), nil, api.Bounds, 3},
+	})
+}
+
+// TestGrowOfMoreBits: memory.grow takes an I32. Of a register that holds more the upper 32 bits are left out, be they laid by a const, an argument or an instruction of I64.
+func TestGrowOfMoreBits(t *testing.T) {
+	const grow = "r4 = memory.grow r0; r5 = memory.size; r6 = const 16; r5 = i64.mul r5 r6; r4 = i64.add r4 r5; return r4"
+	for _, c := range []struct {
+		name         string
+		lower        uint64
+		gives, pages uint64
+	}{
+		{"nothing is asked for", 0, 1, 1},
+		{"it grows", 1, 1, 2},
+		{"it grows to all", 2, 1, 3},
+		{"one too many", 3, 1<<32 - 1, 1},
+		{"far too many", 1 << 31, 1<<32 - 1, 1},
+		{"the most of 32 bits", 1<<32 - 1, 1<<32 - 1, 1},
+	} {
+		want := give(c.gives + 16*c.pages)
+		for _, upper := range []uint64{0, 1, 2, 1 << 31, 1<<32 - 1} {
+			n := upper<<32 | c.lower
+			name := fmt.Sprintf("%s: %d", c.name, n)
+			holdAll(t, []trial{
+				{name, typeBigII, grow, with(n), want, 0, 6},
+				{name + ", of a const", typeBigI, fmt.Sprintf("r0 = const %d; ", int64(n)) + grow, nil, want, 0, 7},
+				{name + ", of an i64.sub", typeBigII, "r1 = const 1; r0 = i64.sub r0 r1; " + grow, with(n + 1), want, 0, 8},
+				{name + ", which stays in its register", typeBigII, "r4 = memory.grow r0; return r0", with(n), give(n), 0, 2},
+			})
+		}
+	}
+	holdAll(t, []trial{
+		{"to its own register", typeBigII, "r0 = memory.grow r0; return r0", with(1<<32 + 1), give(1), 0, 2},
+		{"once and again", typeBigII, "r4 = memory.grow r0; r4 = memory.grow r0; return r4", with(1<<32 + 1), give(2), 0, 3},
+		{"once too often", typeBigII, "r4 = memory.grow r0; r4 = memory.grow r0; r4 = memory.grow r0; return r4", with(1<<32 + 1), give(1<<32 - 1), 0, 4},
+		{"the new page is there", typeBigII, "r4 = memory.grow r0; r5 = const 8188; r4 = i32.load r5 +0; return r4", with(1<<32 + 1), give(0), 0, 4},
+		{"no page is there", typeBigII, "r4 = memory.grow r0; r5 = const 4096; r4 = i32.load r5 +0; return r4", with(1 << 32), nil, api.Bounds, 3},
+		{"of what was loaded", typeBigI, "r0 = const 4294967297; i64.store r7 r0 +0; r0 = i64.load r7 +0; r0 = memory.grow r0; r0 = memory.size; return r0", nil, give(2), 0, 6},
 	})
 }
 
