@@ -184,7 +184,7 @@ func TestFoldUnreached(t *testing.T) {
 	const rest = "block 1 depth 3; r2 = const 5; r3 = move r2; r4 = i64.add r2 r3; r5 = move r0; r6 = move r5; call r5 r6 1; branch r2 -> 0 1; block 2 depth 4; r3 = move r4; table r3 -> 1 2 0"
 	holdFold(t, []before{{"two", "block 0 depth 0; r3 = move r2; return; " + rest, "block 0 depth 0; r3 = const 0; return; " + rest}})
 	// What can be reached by a way that is never gone is none of these.
-	holdFold(t, []before{{"one that is never come to", "block 0 depth 0; branch r2 -> 1 2; block 1 depth 0; r3 = move r2; r4 = move r0; r5 = i64.add r4 r3; return; block 2 depth 0; return", "block 0 depth 0; jump -> 2; block 1 depth 0; r3 = const 0; r4 = move r0; r5 = i64.add r0 r3; return; block 2 depth 0; return"}})
+	holdFold(t, []before{{"one that is never come to", "block 0 depth 0; branch r2 -> 1 2; block 1 depth 0; r3 = move r2; r4 = move r0; r5 = i64.add r4 r3; return; block 2 depth 0; return", "block 0 depth 0; jump -> 2; block 1 depth 0; r3 = const 0; r4 = move r0; r5 = i64.add r0 r2; return; block 2 depth 0; return"}})
 }
 
 func TestFoldMoves(t *testing.T) {
@@ -221,8 +221,19 @@ func TestFoldMoves(t *testing.T) {
 		{"there and back", "r2 = move r0; r0 = move r2; call r0 r2 1", "r2 = move r0; r0 = move r0; call r0 r0 1"},
 		{"to itself", "r2 = move r0; r0 = move r0; r2 = move r2; call r0 r2 1", "r2 = move r0; r0 = move r0; r2 = move r0; call r0 r0 1"},
 
-		{"what is known is no move any more", "r2 = const 5; r3 = move r2; call r3 r2 1", "r2 = const 5; r3 = const 5; call r3 r2 1"},
-		{"what is known from the begin on", "r2 = move r3; call r2 r3 1", "r2 = const 0; call r2 r3 1"},
+		{"what is known is a move none the less", "r2 = const 5; r3 = move r2; call r3 r2 1", "r2 = const 5; r3 = const 5; call r2 r2 1"},
+		{"what is known from the begin on", "r2 = move r3; call r2 r3 1", "r2 = const 0; call r3 r3 1"},
+		{"what is known, by what gives something", "r2 = const 5; r3 = move r2; r4 = i64.add r3 r0; r4 = select r3 r0 r1; global.set r3 0", "r2 = const 5; r3 = const 5; r4 = i64.add r2 r0; r4 = select r2 r0 r1; global.set r2 0"},
+		{"what is known, by what is known, too", "r2 = const 5; r3 = move r2; r4 = i64.add r3 r3; call r4 1", "r2 = const 5; r3 = const 5; r4 = const 10; call r4 1"},
+		{"a chain of what is known", "r2 = const 5; r3 = move r2; r4 = move r3; call r4 r3 r2 1", "r2 = const 5; r3 = const 5; r4 = const 5; call r2 r2 r2 1"},
+		{"a chain of what is known, whose first one was given anew", "r2 = const 5; r3 = move r2; r4 = move r3; r2 = global.get 1; call r4 r3 r2 1", "r2 = const 5; r3 = const 5; r4 = const 5; r2 = global.get 1; call r3 r3 r2 1"},
+		{"a chain of what is known, whose first one was given a const", "r2 = const 5; r3 = move r2; r4 = move r3; r2 = const 6; call r4 r3 r2 1", "r2 = const 5; r3 = const 5; r4 = const 5; r2 = const 6; call r3 r3 r2 1"},
+		{"a chain of what is known, whose last one was given a const", "r2 = const 5; r3 = move r2; r4 = move r3; r4 = const 6; call r4 r3 r2 1", "r2 = const 5; r3 = const 5; r4 = const 5; r4 = const 6; call r4 r2 r2 1"},
+		{"what is known, there and back", "r2 = const 5; r3 = move r2; r2 = move r3; call r2 r3 1", "r2 = const 5; r3 = const 5; r2 = const 5; call r2 r2 1"},
+		{"what is known, to itself", "r2 = const 5; r2 = move r2; r3 = move r2; r3 = move r3; call r3 1", "r2 = const 5; r2 = const 5; r3 = const 5; r3 = const 5; call r2 1"},
+		{"what is known, and then what is not", "r2 = const 5; r3 = move r2; r3 = move r0; call r3 r2 1", "r2 = const 5; r3 = const 5; r3 = move r0; call r0 r2 1"},
+		{"what is not known, and then what is", "r3 = move r0; r2 = const 5; r3 = move r2; call r3 r2 1", "r3 = move r0; r2 = const 5; r3 = const 5; call r2 r2 1"},
+		{"what is reckoned, and known, is no move", "r2 = const 5; r3 = i64.or r2 r2; r4 = select r2 r3 r2; call r4 r3 r2 1", "r2 = const 5; r3 = const 5; r4 = const 5; call r4 r3 r2 1"},
 		{"what was known, and is not", "r2 = const 5; r2 = global.get 1; r3 = move r2; call r3 r2 1", "r2 = const 5; r2 = global.get 1; r3 = move r2; call r2 r2 1"},
 		{"beside what is known", "r2 = move r0; r3 = const 5; r3 = i64.add r2 r3; call r2 r3 1", "r2 = move r0; r3 = const 5; r3 = i64.add r0 r3; call r0 r3 1"},
 		{"a select of what is not known is no move", "r2 = const 5; r3 = select r0 r1 r2; call r3 r0 1", "r2 = const 5; r3 = select r0 r1 r2; call r3 r0 1"},
@@ -243,6 +254,8 @@ func TestFoldMovesAtEnds(t *testing.T) {
 	}
 	wantFold(t, "a return", ends("r1 = move r0; return r1"), ends("r1 = move r0; return r0"))
 	wantFold(t, "a return of what is known", ends("r1 = const 3; return r1"), ends("r1 = const 3; return r1"))
+	wantFold(t, "a return of what is known, and was moved", ends("r1 = const 3; r2 = move r1; return r2"), ends("r1 = const 3; r2 = const 3; return r1"))
+	wantFold(t, "a return of what is known from the begin on, and was moved", ends("r1 = move r2; return r1"), ends("r1 = const 0; return r2"))
 	wantFold(t, "a return of another one", ends("r1 = move r0; r0 = i64.clz r0; return r1"), ends("r1 = move r0; r0 = i64.clz r0; return r1"))
 }
 

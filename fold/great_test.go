@@ -55,3 +55,27 @@ func TestGreatestCode(t *testing.T) {
 		}
 	}
 }
+
+// TestLongestChain: a value that is known goes through all registers, and is taken out of the last one by as many instructions as code may have.
+func TestLongestChain(t *testing.T) {
+	const regs, all = 1024, 16384
+	c := vcode.Code{Params: 1, Regs: regs, Blocks: make([]vcode.Block, 1)}
+	l := []vcode.Ins{{Op: opcode.Const64, Dst: 1, N: 7}}
+	for r := 2; r < regs; r++ {
+		l = append(l, vcode.Ins{Op: vcode.Move, Dst: r, Src: []int{r - 1}})
+	}
+	for len(l) < all-1 {
+		l = append(l, vcode.Ins{Op: 0x7c, Dst: 0, Src: []int{regs - 1, 0}})
+	}
+	c.Blocks[0].Ins = append(l, vcode.Ins{Op: opcode.Return, Dst: -1})
+	made := must[vcode.Code](t, "Fold")(fold.Fold(c))
+	for i, in := range made.Blocks[0].Ins[:all-1] {
+		want := vcode.Ins{Op: opcode.Const64, Dst: i + 1, N: 7}
+		if i+1 >= regs {
+			want = vcode.Ins{Op: 0x7c, Dst: 0, Src: []int{1, 0}}
+		}
+		if told(in) != told(want) {
+			t.Fatalf("instruction %d is %v, want %v", i, in, want)
+		}
+	}
+}

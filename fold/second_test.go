@@ -161,7 +161,6 @@ func secondBlock(b *vcode.Block, l []vcode.Ins, known map[int]uint64) {
 	p := passage{l: l}
 	for i, in := range l {
 		v, ok := secondGives(known, in)
-		p.known = append(p.known, ok)
 		made := &b.Ins[i]
 		by, byKnown := uint64(0), false
 		if in.Op == vcode.Branch || in.Op == vcode.Table {
@@ -189,15 +188,14 @@ func secondBlock(b *vcode.Block, l []vcode.Ins, known map[int]uint64) {
 	}
 }
 
-// passage is a block's instructions, up to one of them; of each whether what it gives is known, and whether it is a move to a register that has that already.
+// passage is a block's instructions as they were handed in; of each of them, up to one, whether it is a move to a register that has that already.
 type passage struct {
-	l     []vcode.Ins
-	known []bool
-	idle  []bool
+	l    []vcode.Ins
+	idle []bool
 }
 
-// moves says whether an instruction is a move, and stays one.
-func (p *passage) moves(i int) bool { return p.l[i].Op == vcode.Move && !p.known[i] }
+// moves says whether an instruction is a move, be its value known or not.
+func (p *passage) moves(i int) bool { return p.l[i].Op == vcode.Move }
 
 // anew says whether an instruction gives a register something that it has not.
 func (p *passage) anew(r, i int) bool { return p.l[i].Dst == r && !p.idle[i] }
